@@ -1,0 +1,1 @@
+"""Leastmoved: buckets that move no more than they must."""

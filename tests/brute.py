@@ -1,0 +1,46 @@
+"""What the tests compare with: everything of a small size, listed in order."""
+
+from fractions import Fraction
+from itertools import product
+
+
+def all_assignments(variants, buckets):
+    return list(product(range(variants), repeat=buckets))
+
+
+def all_allocations(variants, buckets):
+    return [shares for shares in product(range(buckets + 1), repeat=variants) if sum(shares) == buckets]
+
+
+def shares_of(assignment, variants):
+    """The allocation, counted without the program."""
+    shares = [0] * variants
+    for variant in assignment:
+        shares[variant] += 1
+    return tuple(shares)
+
+
+def assignments_of(allocation):
+    """All assignments of the allocation, in order."""
+    everything = all_assignments(len(allocation), sum(allocation))
+    return [assignment for assignment in everything if shares_of(assignment, len(allocation)) == allocation]
+
+
+def moved(first, second):
+    """The churn, counted without the program."""
+    count = 0
+    for bucket in range(len(first)):
+        if first[bucket] != second[bucket]:
+            count += 1
+    return count
+
+
+def lost(first, second):
+    """The transfer, counted without the program."""
+    return sum(first[v] - second[v] for v in range(len(first)) if second[v] < first[v])
+
+
+def distance(weights, allocation):
+    """The deviation as a fraction."""
+    quotas = [Fraction(sum(allocation) * weight, sum(weights)) for weight in weights]
+    return sum(abs(share - quota) for share, quota in zip(allocation, quotas))

@@ -1,0 +1,152 @@
+"""The files of the package: their form, their imports, and the interface that they define."""
+
+import ast
+import builtins
+import re
+import unittest
+from pathlib import Path
+
+PACKAGE = Path(__file__).resolve().parent.parent / "leastmoved"
+FILES = sorted(PACKAGE.glob("*.py"))
+TREES = {path.stem: ast.parse(path.read_text("utf-8")) for path in FILES}
+LIBRARY = {
+    "math": {"gcd", "lcm", "isqrt", "comb", "perm", "factorial"},
+    "itertools": {"product", "combinations", "permutations"},
+}
+BARRED_NODES = (
+    ast.Global, ast.AsyncFunctionDef, ast.AsyncFor, ast.AsyncWith, ast.Await, ast.Div, ast.Import, ast.NamedExpr,
+    ast.AnnAssign, ast.Lambda, ast.Try, ast.With, ast.Yield, ast.YieldFrom, ast.Nonlocal)
+BARRED_WORDS = re.compile(
+    r"\b(typing|enum|Enum|namedtuple|NamedTuple|abstractmethod|register|mro|elements|open|input|law|eval|exec|id"
+    r"|globals|locals|vars|dir|print|chr|_wall)\b")
+
+INTERFACE = {
+    "errors": {
+        "LeastError": None, "BadValue": "name", "TooLarge": "what", "NotPossible": "why", "TextError": "column words"},
+    "allocations": {
+        "is_allocation": "value variants buckets", "transfer": "first second", "medians": "first second third",
+        "apportioned": "weights buckets", "deviation": "weights allocation", "is_nearest": "weights allocation",
+        "is_order": "value many", "renamed_shares": "allocation order"},
+    "assignments": {
+        "is_assignment": "value variants buckets", "allocation_of": "assignment variants", "churn": "first second",
+        "moves": "first second", "flows": "first second variants", "buckets_of": "assignment variant",
+        "renamed": "assignment order", "rearranged": "assignment order"},
+}
+
+
+def functions_of(tree):
+    return [node for node in ast.walk(tree) if isinstance(node, ast.FunctionDef)]
+
+
+def imports_of(tree):
+    return [node for node in ast.walk(tree) if isinstance(node, ast.ImportFrom)]
+
+
+def parameters_of(function):
+    return [each.arg for each in function.args.args]
+
+
+def defined_in(tree):
+    """The functions, classes and values that a file defines itself."""
+    names = set()
+    for node in tree.body:
+        if isinstance(node, (ast.FunctionDef, ast.ClassDef)):
+            names.add(node.name)
+        if isinstance(node, ast.Assign):
+            names.update(target.id for target in node.targets)
+    return names
+
+
+def own_imports(name):
+    return [node.module.split(".")[1] for node in imports_of(TREES[name]) if node.module.startswith("leastmoved.")]
+
+
+def reached_from(name):
+    found, waiting = set(), own_imports(name)
+    while waiting:
+        one = waiting.pop()
+        if one not in found:
+            found.add(one)
+            waiting.extend(own_imports(one))
+    return found
+
+
+class Files(unittest.TestCase):
+    def test_folder_holds_plain_files_only(self):
+        names = [path.name for path in PACKAGE.iterdir() if path.name != "__pycache__"]
+        self.assertIn("__init__.py", names)
+        for name in names:
+            self.assertRegex(name, r"\A[a-z0-9_]+\.py\Z")
+
+    def test_characters_and_sizes(self):
+        for path in FILES:
+            text = path.read_text("utf-8")
+            self.assertRegex(text, r"\A[ -~\n]*\Z", path.name)
+            self.assertLessEqual(len(text.splitlines()), 399, path.name)
+            self.assertLessEqual(max(map(len, text.splitlines())), 120, path.name)
+
+    def test_functions_are_small(self):
+        for name, tree in TREES.items():
+            for function in functions_of(tree):
+                self.assertLessEqual(function.end_lineno - function.lineno + 1, 40, (name, function.name))
+
+    def test_statements_and_words(self):
+        for name, tree in TREES.items():
+            for node in ast.walk(tree):
+                self.assertNotIsInstance(node, BARRED_NODES, name)
+                if isinstance(node, ast.Constant):
+                    self.assertNotIsInstance(node.value, (float, complex), name)
+                if isinstance(node, (ast.Name, ast.Attribute, ast.arg)):
+                    word = getattr(node, "id", None) or getattr(node, "attr", None) or getattr(node, "arg", None)
+                    self.assertNotRegex(word, BARRED_WORDS, name)
+
+    def test_every_definition_has_a_docstring(self):
+        for name, tree in TREES.items():
+            self.assertTrue(ast.get_docstring(tree), name)
+            for node in ast.walk(tree):
+                if isinstance(node, (ast.FunctionDef, ast.ClassDef)) and node.name != "__init__":
+                    self.assertTrue(ast.get_docstring(node), (name, node.name))
+
+
+class Names(unittest.TestCase):
+    def test_imports(self):
+        for name, tree in TREES.items():
+            for node in imports_of(tree):
+                imported = {each.name for each in node.names}
+                if node.module in LIBRARY:
+                    self.assertLessEqual(imported, LIBRARY[node.module], name)
+                else:
+                    self.assertLessEqual(imported, defined_in(TREES[node.module.split(".")[1]]), name)
+
+    def test_no_two_files_import_from_each_other(self):
+        for name in TREES:
+            self.assertNotIn(name, reached_from(name))
+
+    def test_no_name_is_given_another_meaning(self):
+        for name, tree in TREES.items():
+            imported = {each.name for node in imports_of(tree) for each in node.names}
+            bound = [node.id for node in ast.walk(tree) if isinstance(node, ast.Name) and isinstance(node.ctx, ast.Store)]
+            for function in functions_of(tree):
+                bound.extend(parameters_of(function))
+            for word in set(bound) - {"_"}:
+                self.assertNotIn(word, imported, name)
+                self.assertFalse(hasattr(builtins, word), (name, word))
+
+
+class Interface(unittest.TestCase):
+    """Promise 8: every name is defined in the file under which the document lists it."""
+
+    def test_functions_and_classes(self):
+        for name, wanted in INTERFACE.items():
+            here = {node.name: node for node in TREES[name].body if isinstance(node, (ast.FunctionDef, ast.ClassDef))}
+            for word, parameters in wanted.items():
+                self.assertIn(word, here, name)
+                if parameters is not None:
+                    self.check_parameters(here[word], parameters.split())
+
+    def check_parameters(self, node, parameters):
+        if isinstance(node, ast.FunctionDef):
+            self.assertEqual(parameters_of(node), parameters, node.name)
+        else:
+            made = [each for each in node.body if isinstance(each, ast.FunctionDef) and each.name == "__init__"]
+            self.assertEqual(parameters_of(made[0]), ["self"] + parameters, node.name)
