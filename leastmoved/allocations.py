@@ -105,11 +105,13 @@ def is_nearest(weights, allocation):
     return not rounded_up or min(rounded_up) >= max(rounded_down)
 
 
+def placed(parts, order):
+    """Return the tuple that has each part at the place that the order tells for it."""
+    return tuple([parts[order.index(place)] for place in range(len(order))])
+
+
 def renamed_shares(allocation, order):
     """Return the allocation with its variants renamed: order[v] is the new name of v."""
     check_allocation(allocation, "allocation")
     require(is_order(order, len(allocation)), "order")
-    shares = [0] * len(allocation)
-    for variant, share in zip(order, allocation):
-        shares[variant] = share
-    return tuple(shares)
+    return placed(allocation, order)

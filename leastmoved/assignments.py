@@ -1,6 +1,6 @@
 """Assignments: which variant each bucket has."""
 
-from leastmoved.allocations import is_order
+from leastmoved.allocations import is_order, placed
 from leastmoved.checks import MOST_BUCKETS, MOST_VARIANTS, are_integers, is_integer, require
 
 
@@ -75,7 +75,4 @@ def rearranged(assignment, order):
     """Return the assignment with its buckets rearranged: the bucket order[b] gets the variant of b."""
     check_assignment(assignment, "assignment")
     require(is_order(order, len(assignment)), "order")
-    variants = [0] * len(assignment)
-    for bucket, variant in zip(order, assignment):
-        variants[bucket] = variant
-    return tuple(variants)
+    return placed(assignment, order)
