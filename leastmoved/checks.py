@@ -23,3 +23,8 @@ def require(holds, name):
     """Raise BadValue with the name of the argument unless its condition holds."""
     if not holds:
         raise BadValue(name)
+
+
+def check_variants(variants):
+    """Raise BadValue unless there are 1 to 5 variants."""
+    require(is_integer(variants, 1, MOST_VARIANTS), "variants")

@@ -44,3 +44,25 @@ def distance(weights, allocation):
     """The deviation as a fraction."""
     quotas = [Fraction(sum(allocation) * weight, sum(weights)) for weight in weights]
     return sum(abs(share - quota) for share, quota in zip(allocation, quotas))
+
+
+def least_changes(allocation, assignment):
+    """All least changes, in order, found by their churn."""
+    least = lost(shares_of(assignment, len(allocation)), allocation)
+    return [other for other in assignments_of(allocation) if moved(assignment, other) == least]
+
+
+def is_least(variants, first, second):
+    """The change between two assignments is least, told by churn and transfer."""
+    return moved(first, second) == lost(shares_of(first, variants), shares_of(second, variants))
+
+
+def is_minimal_table(variants, table):
+    places = range(len(table))
+    return all(is_least(variants, table[i], table[j]) for i in places for j in places if i < j)
+
+
+def subsets(many):
+    """All ascending tuples of integers below this number, shorter ones first."""
+    found = [tuple(k for k in range(many) if mask >> k & 1) for mask in range(2 ** many)]
+    return sorted(found, key=lambda chosen: (len(chosen), chosen))

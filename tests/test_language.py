@@ -13,9 +13,7 @@ LIBRARY = {
     "math": {"gcd", "lcm", "isqrt", "comb", "perm", "factorial"},
     "itertools": {"product", "combinations", "permutations"},
 }
-BARRED_NODES = (
-    ast.Global, ast.AsyncFunctionDef, ast.AsyncFor, ast.AsyncWith, ast.Await, ast.Div, ast.Import, ast.NamedExpr,
-    ast.AnnAssign, ast.Lambda, ast.Try, ast.With, ast.Yield, ast.YieldFrom, ast.Nonlocal)
+BARRED_NODES = (ast.Global, ast.AsyncFunctionDef, ast.AsyncFor, ast.AsyncWith, ast.Await, ast.Div, ast.Import)
 BARRED_WORDS = re.compile(
     r"\b(typing|enum|Enum|namedtuple|NamedTuple|abstractmethod|register|mro|elements|open|input|law|eval|exec|id"
     r"|globals|locals|vars|dir|print|chr|_wall)\b")
@@ -31,6 +29,19 @@ INTERFACE = {
         "is_assignment": "value variants buckets", "allocation_of": "assignment variants", "churn": "first second",
         "moves": "first second", "flows": "first second variants", "buckets_of": "assignment variant",
         "renamed": "assignment order", "rearranged": "assignment order"},
+    "changes": {
+        "needless": "variants assignment other", "is_minimal": "variants assignment other",
+        "first_change": "allocation assignment", "excess": "allocation assignment other",
+        "choices": "allocation assignment bucket"},
+    "counting": {
+        "count_changes": "allocation assignment", "nth_change": "allocation assignment index",
+        "index_of": "allocation assignment other", "next_change": "allocation assignment other bucket"},
+    "priorities": {
+        "unlike_pair": "variants table", "first_lists": "variants table", "gives": "variants table lists",
+        "served": "variants lists allocation"},
+    "extending": {
+        "allowed": "variants table allocation bucket", "extension": "variants table allocation",
+        "obstruction": "variants table allocation", "is_obstruction": "variants table allocation value"},
 }
 
 
