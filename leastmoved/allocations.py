@@ -20,6 +20,15 @@ def is_bounded_allocation(value):
     return 1 <= len(value) <= MOST_VARIANTS and sum(value) <= MOST_BUCKETS
 
 
+def are_allocations(value, most):
+    """Return True if the value is a tuple of 1 to so many allocations of the same size, within the bounds."""
+    if not isinstance(value, tuple) or not 1 <= len(value) <= most:
+        return False
+    if not is_bounded_allocation(value[0]):
+        return False
+    return all([is_allocation(each, len(value[0]), sum(value[0])) for each in value])
+
+
 def is_order(value, many):
     """Return True if the value is an order of so many things."""
     return are_integers(value, 0, many - 1) and len(value) == many and len(set(value)) == many

@@ -38,6 +38,27 @@ def allocation_of(assignment, variants):
     return tuple([assignment.count(variant) for variant in range(variants)])
 
 
+def is_assignment_of(value, allocation):
+    """Return True if the value is an assignment of the allocation."""
+    variants = len(allocation)
+    return is_assignment(value, variants, sum(allocation)) and allocation_of(value, variants) == allocation
+
+
+def are_assignments_of(value, allocations):
+    """Return True if the value is a tuple of an assignment of each allocation, in their order."""
+    if not isinstance(value, tuple) or len(value) != len(allocations):
+        return False
+    return all([is_assignment_of(part, allocation) for part, allocation in zip(value, allocations)])
+
+
+def ascending(allocation):
+    """Return the first assignment of the allocation, in which the variants stand in ascending order."""
+    row = []
+    for variant, share in enumerate(allocation):
+        row.extend([variant] * share)
+    return tuple(row)
+
+
 def churn(first, second):
     """Return the number of buckets that have different variants."""
     return len(moves(first, second))

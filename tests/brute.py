@@ -66,3 +66,32 @@ def subsets(many):
     """All ascending tuples of integers below this number, shorter ones first."""
     found = [tuple(k for k in range(many) if mask >> k & 1) for mask in range(2 ** many)]
     return sorted(found, key=lambda chosen: (len(chosen), chosen))
+
+
+def middles(three):
+    """The medians, told as point 10 does."""
+    return tuple(sorted(shares)[1] for shares in zip(*three))
+
+
+def tables_of(allocations):
+    """All tuples of an assignment of each allocation, in order."""
+    return list(product(*[assignments_of(allocation) for allocation in allocations]))
+
+
+def keeps_pair(allocations, pair, table):
+    """The table is minimal for the pair, told by churn and transfer."""
+    i, j = pair
+    return moved(table[i], table[j]) == lost(allocations[i], allocations[j])
+
+
+def kept_indexes(allocations, pairs, table):
+    return tuple(index for index, pair in enumerate(pairs) if keeps_pair(allocations, pair, table))
+
+
+def histories_of(allocations):
+    """All histories, in order."""
+    found = [(row,) for row in assignments_of(allocations[0])]
+    for before, after in zip(allocations, allocations[1:]):
+        rows = assignments_of(after)
+        found = [known + (row,) for known in found for row in rows if moved(known[-1], row) == lost(before, after)]
+    return found

@@ -59,10 +59,72 @@ True
 True
 """
 
+TRIPLES = """
+>>> from leastmoved.triples import accepts_return, accepts_three, all_different, bridge, excess, return_cost, table_of_three
+>>> first, second, third = (1, 1, 0), (1, 0, 1), (0, 1, 1)
+>>> excess(first, second, third), table_of_three(first, second, third), return_cost(first, second, third)
+(1, None, 2)
+>>> accepts_three(first, second, third, ("medians", (1, 1, 1)))
+True
+>>> accepts_return(first, second, third, ((0, 1), (0, 2), (1, 2)))
+True
+>>> accepts_return(first, second, third, ((0, 1), (0, 2), (2, 1)))
+False
+>>> all_different((4, 0, 0), (0, 4, 0), (0, 0, 4))
+4
+>>> bridge((3, 1), (1, 3), (2, 2))
+(2, 2)
+>>> accepts_three((3, 1), (1, 3), (2, 2), ("table", ((0, 1, 0, 0), (0, 1, 1, 1), (0, 1, 1, 0))))
+True
+"""
+
+PLANS = """
+>>> from leastmoved.conflicts import accepts_tree, least_conflict, most_pairs, tree_against
+>>> from leastmoved.plans import bad_triples, first_cycle, first_table, kept_pairs
+>>> three = ((1, 1, 0), (1, 0, 1), (0, 1, 1))
+>>> pairs = ((0, 1), (0, 2), (1, 2))
+>>> first_table(three, ((0, 1), (1, 2)))
+((0, 1), (0, 2), (1, 2))
+>>> first_table(three, pairs) is None, bad_triples(three, pairs), first_cycle(three, pairs)
+(True, [(0, 1, 2)], (0, 1, 2))
+>>> kept_pairs(three, pairs, ((0, 1), (0, 2), (1, 2)))
+(0, 2)
+>>> most_pairs(three, pairs)
+((0, 1), ((0, 1), (0, 2), (2, 1)))
+>>> least_conflict(three, pairs)
+(0, 1, 2)
+>>> accepts_tree(three, pairs, tree_against(three, pairs)), accepts_tree(three, pairs, ("full", 0, 0))
+(True, False)
+>>> five = ((1, 1, 0, 0, 0), (0, 1, 1, 0, 0), (0, 0, 1, 1, 0), (0, 0, 0, 1, 1), (1, 0, 0, 0, 1))
+>>> least_conflict(five, ((0, 1), (1, 2), (2, 3), (3, 4), (0, 4)))
+(0, 1, 2, 3, 4)
+"""
+
+HISTORIES = """
+>>> from leastmoved.histories import calm_history, changes_of, decreases, direct, first_history, first_turn
+>>> from leastmoved.histories import least_limit, overdrawn, total, within, wrong_step
+>>> down = ((2, 0), (1, 1), (2, 0))
+>>> total(down), direct(down), first_turn(down), decreases(down)
+(2, 0, (0, 1), (1, 1))
+>>> calm_history(down) is None, overdrawn(down)
+(True, 1)
+>>> calm_history(((1, 1), (0, 2), (1, 1)))
+((0, 1), (1, 1), (1, 0))
+>>> first_history(down), changes_of(down, ((0, 0), (0, 1), (0, 0)))
+(((0, 0), (0, 1), (0, 0)), (0, 2))
+>>> least_limit(((2, 0), (1, 1), (2, 0), (1, 1), (2, 0)))
+(2, ((0, 0), (0, 1), (0, 0), (1, 0), (0, 0)))
+>>> within(down, 1) is None, wrong_step(down, ((0, 0), (0, 1), (0, 0))) is None
+(True, True)
+"""
+
 EXAMPLES = {
     "assignments": ASSIGNMENTS,
     "changes": CHANGES,
     "priorities": PRIORITIES,
+    "triples": TRIPLES,
+    "plans": PLANS,
+    "histories": HISTORIES,
     "README.md": README.read_text("utf-8"),
 }
 

@@ -42,6 +42,22 @@ INTERFACE = {
     "extending": {
         "allowed": "variants table allocation bucket", "extension": "variants table allocation",
         "obstruction": "variants table allocation", "is_obstruction": "variants table allocation value"},
+    "triples": {
+        "excess": "first second third", "table_of_three": "first second third", "all_different": "first second third",
+        "accepts_three": "first second third answer", "return_cost": "first second third",
+        "returned": "first second third assignment", "accepts_return": "first second third chain",
+        "lies_between": "middle first second", "bridge": "first second third"},
+    "plans": {
+        "first_cycle": "allocations pairs", "bad_triples": "allocations pairs", "kept_pairs": "allocations pairs table",
+        "first_table": "allocations pairs"},
+    "conflicts": {
+        "most_pairs": "allocations pairs", "least_conflict": "allocations pairs", "tree_against": "allocations pairs",
+        "accepts_tree": "allocations pairs tree"},
+    "histories": {
+        "total": "allocations", "direct": "allocations", "first_turn": "allocations", "decreases": "allocations",
+        "overdrawn": "allocations", "first_history": "allocations", "wrong_step": "allocations table",
+        "changes_of": "allocations history", "calm_history": "allocations", "within": "allocations limit",
+        "least_limit": "allocations"},
 }
 
 
