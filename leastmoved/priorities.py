@@ -41,14 +41,18 @@ def unlike_pair(variants, table):
     return None
 
 
-def first_list(table, variant):
-    """Return the full list of the variant: what it has with its least share, then what each greater one adds."""
-    rows = sorted([buckets_of(assignment, variant) for assignment in table], key=len)
-    rows.append(list(range(len(table[0]))))
+def short_list(table, variant):
+    """Return the list of the variant: what it has with its least share, then what each greater one adds."""
     found = []
-    for row in rows:
+    for row in sorted([buckets_of(assignment, variant) for assignment in table], key=len):
         found.extend([bucket for bucket in row if bucket not in found])
     return tuple(found)
+
+
+def first_list(table, variant):
+    """Return the full list of the variant, with the buckets behind that it never has."""
+    found = short_list(table, variant)
+    return found + tuple([bucket for bucket in range(len(table[0])) if bucket not in found])
 
 
 def first_lists(variants, table):

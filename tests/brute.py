@@ -95,3 +95,33 @@ def histories_of(allocations):
         rows = assignments_of(after)
         found = [known + (row,) for known in found for row in rows if moved(known[-1], row) == lost(before, after)]
     return found
+
+
+def leaving(one, two, bucket):
+    """The bucket leaves needlessly from the one pair of a rule to the other one, as promise 80 tells it."""
+    (shares, assignment), (other_shares, other) = one, two
+    w = assignment[bucket]
+    return w != 0 and other[bucket] != w and other_shares[w] >= shares[w]
+
+
+def is_steady(rule):
+    """No bucket leaves needlessly for any two pairs."""
+    return not any(leaving(one, two, b) for one in rule for two in rule for b in range(len(one[1])))
+
+
+def allowed_shares(family):
+    """All shares that the family allows."""
+    width = len(family[0])
+    greatest = max([0] + [share for shares in family for share in shares])
+    everything = product(range(greatest + 1), repeat=width)
+    return [shares for shares in everything if any(all(a <= b for a, b in zip(shares, each)) for each in family)]
+
+
+def entries_of(family):
+    """All entries that some allowed shares use, ascending."""
+    return sorted({(v, i) for shares in allowed_shares(family) for v, share in enumerate(shares, 1) for i in range(share)})
+
+
+def together(family, one, two):
+    """The entries coexist, told by the allowed shares."""
+    return one != two and any(shares[one[0] - 1] > one[1] and shares[two[0] - 1] > two[1] for shares in allowed_shares(family))

@@ -118,6 +118,48 @@ HISTORIES = """
 (True, True)
 """
 
+RULES = """
+>>> from leastmoved.continuing import accepts_none, allowed_variants, continuation, why_none
+>>> from leastmoved.rules import lists_of_rule, most_waste, needless_leave, serves_rule
+>>> steady = (((1, 1, 0), (1, 0)), ((1, 0, 1), (0, 2)), ((0, 1, 1), (1, 2)))
+>>> lists_of_rule(3, 2, steady), most_waste(3, 2, steady)
+(((0,), (1,)), (0, 1, 2, 1))
+>>> thrifty = (((1, 1, 0), (1, 0)), ((1, 0, 1), (2, 0)))
+>>> continuation(3, 2, thrifty, (0, 1, 1)) is None, allowed_variants(3, 2, thrifty, (0, 1, 1))
+(True, ((), (0,)))
+>>> why_none(3, 2, thrifty, (0, 1, 1))
+('short', (), (0,))
+>>> accepts_none(3, 2, thrifty, (0, 1, 1), ("short", (0,), (1,)))
+True
+>>> needless_leave(3, 2, (((1, 1, 0), (0, 1)), ((0, 1, 1), (1, 2))))
+(0, 1, 1)
+>>> serves_rule(3, 2, steady, ((0, 1), (1,)))
+True
+"""
+
+POPULATIONS = """
+>>> from leastmoved.fewest import accepts_few, accepts_fewest, fewest, lists_for, needed
+>>> from leastmoved.populations import coexist, fault, greatest_clique
+>>> family = ((1, 1, 0), (1, 0, 1), (0, 1, 1))
+>>> greatest_clique(4, family), coexist(4, family, (1, 0), (3, 0))
+((3, (1, 1, 1)), True)
+>>> fewest(4, family)[:2]
+(3, ((0,), (1,), (2,)))
+>>> accepts_fewest(4, family, (3, ((0,), (1,), (2,)), ("clique", ((1, 0), (2, 0), (3, 0)))))
+True
+>>> fault(4, family, ((0,), (1,), (0,)))
+(1, (1, 3), 0)
+>>> fewest(3, ((3, 1), (1, 3)))[:2]
+(4, ((0, 1, 2), (3, 1, 2)))
+>>> needed(4, 3), lists_for(4, 3)
+(4, ((0, 3, 1), (1, 3, 2), (2, 3, 0)))
+>>> ring = ((1, 1, 0, 0), (0, 1, 1, 0), (0, 0, 1, 1), (1, 0, 0, 1))
+>>> greatest_clique(5, ring)[0], fewest(5, ring)[:2]
+(2, (2, ((0,), (1,), (0,), (1,))))
+>>> accepts_few(5, ring, 1, ("clique", ((1, 0), (2, 0))))
+True
+"""
+
 EXAMPLES = {
     "assignments": ASSIGNMENTS,
     "changes": CHANGES,
@@ -125,6 +167,8 @@ EXAMPLES = {
     "triples": TRIPLES,
     "plans": PLANS,
     "histories": HISTORIES,
+    "rules": RULES,
+    "populations": POPULATIONS,
     "README.md": README.read_text("utf-8"),
 }
 

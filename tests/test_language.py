@@ -58,6 +58,19 @@ INTERFACE = {
         "overdrawn": "allocations", "first_history": "allocations", "wrong_step": "allocations table",
         "changes_of": "allocations history", "calm_history": "allocations", "within": "allocations limit",
         "least_limit": "allocations"},
+    "rules": {
+        "is_rule": "value variants buckets", "missing": "variants buckets rule", "needless_leave": "variants buckets rule",
+        "leaves": "variants buckets rule first second bucket", "lists_of_rule": "variants buckets rule",
+        "serves_rule": "variants buckets rule lists", "most_waste": "variants buckets rule"},
+    "continuing": {
+        "allowed_variants": "variants buckets rule allocation", "continuation": "variants buckets rule allocation",
+        "why_none": "variants buckets rule allocation", "accepts_none": "variants buckets rule allocation evidence"},
+    "populations": {
+        "is_family": "value variants", "entries": "variants family", "coexist": "variants family first second",
+        "greatest_clique": "variants family", "fault": "variants family lists"},
+    "fewest": {
+        "fewest": "variants family", "accepts_few": "variants family few tree", "accepts_fewest": "variants family evidence",
+        "needed": "variants total", "lists_for": "variants total"},
 }
 
 
