@@ -51,12 +51,17 @@ def are_assignments_of(value, allocations):
     return all([is_assignment_of(part, allocation) for part, allocation in zip(value, allocations)])
 
 
+def one_after_another(allocation, order):
+    """Return the assignment of the allocation in which the variants stand in this order."""
+    row = []
+    for variant in order:
+        row.extend([variant] * allocation[variant])
+    return tuple(row)
+
+
 def ascending(allocation):
     """Return the first assignment of the allocation, in which the variants stand in ascending order."""
-    row = []
-    for variant, share in enumerate(allocation):
-        row.extend([variant] * share)
-    return tuple(row)
+    return one_after_another(allocation, tuple(range(len(allocation))))
 
 
 def churn(first, second):

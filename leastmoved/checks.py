@@ -28,3 +28,9 @@ def require(holds, name):
 def check_variants(variants):
     """Raise BadValue unless there are 1 to 5 variants."""
     require(is_integer(variants, 1, MOST_VARIANTS), "variants")
+
+
+def check_sizes(variants, buckets):
+    """Raise BadValue unless there are 1 to 5 variants and 0 to 20 buckets."""
+    check_variants(variants)
+    require(is_integer(buckets, 0, MOST_BUCKETS), "buckets")

@@ -5,17 +5,11 @@ from itertools import combinations
 from leastmoved.allocations import is_allocation, transfer
 from leastmoved.assignments import buckets_of, churn, is_assignment_of
 from leastmoved.changes import check_bucket
-from leastmoved.checks import MOST_BUCKETS, check_variants, is_integer, require
+from leastmoved.checks import check_sizes, is_integer, require
 from leastmoved.priorities import are_lists, fits, short_list
 
 MOST_PAIRS = 20
 CONTROL = 0
-
-
-def check_sizes(variants, buckets):
-    """Raise BadValue unless there are 1 to 5 variants and 0 to 20 buckets."""
-    check_variants(variants)
-    require(is_integer(buckets, 0, MOST_BUCKETS), "buckets")
 
 
 def check_rule(variants, buckets, rule):

@@ -125,3 +125,37 @@ def entries_of(family):
 def together(family, one, two):
     """The entries coexist, told by the allowed shares."""
     return one != two and any(shares[one[0] - 1] > one[1] and shares[two[0] - 1] > two[1] for shares in allowed_shares(family))
+
+
+def pairings(variants, buckets):
+    """All pairs of a bucket and a variant, ascending."""
+    return list(product(range(buckets), range(variants)))
+
+
+def chosen_of(things):
+    """All tuples of some of the things, in their order, those with fewer first."""
+    return [tuple(things[k] for k in places) for places in subsets(len(things))]
+
+
+def possible_ones(allocation, forbidden, pins=()):
+    """All possible assignments that keep the pins, in order, as promises 111 and 115 tell them."""
+    rows = assignments_of(allocation)
+    rows = [row for row in rows if not any(row[b] == v for b, v in forbidden)]
+    return [row for row in rows if all(row[b] == v for b, v in pins)]
+
+
+def kept_in(first, second):
+    """The number of buckets with the same variant in both."""
+    return len(first) - moved(first, second)
+
+
+def bound_told(allocation, held, forbidden, pins, levels):
+    """The bound, as promises 116 and 118 tell it."""
+    total = sum(share * level for share, level in zip(allocation, levels))
+    pinned = dict(pins)
+    for b, old in enumerate(held):
+        own = [v for v in range(len(allocation)) if (b, v) not in forbidden and pinned.get(b, v) == v]
+        if not own:
+            return None
+        total += max((1 if v == old else 0) - levels[v] for v in own)
+    return total

@@ -160,6 +160,55 @@ True
 True
 """
 
+THRESHOLDS = """
+>>> from leastmoved.thresholds import best_order, boundaries, by_intervals, interval_churn, interval_moves, waste
+>>> by_intervals((2, 1, 3), (1, 0, 2)), boundaries((2, 1, 3), (1, 0, 2))
+((1, 0, 0, 2, 2, 2), (1, 3))
+>>> interval_churn((4, 4, 4), (2, 4, 6), (0, 1, 2)), waste((4, 4, 4), (2, 4, 6), (0, 1, 2))
+(4, 2)
+>>> interval_moves((4, 4, 4), (2, 4, 6), (0, 1, 2))
+[(0, 1, 2, 2), (1, 2, 6, 2)]
+>>> best_order(((4, 4, 4), (2, 4, 6)))
+((0, 2, 1), 2, 2)
+>>> best_order(((2, 2, 2, 2), (5, 1, 1, 1)))
+((1, 0, 2, 3), 4, 3)
+"""
+
+EXCLUSIONS = """
+>>> from leastmoved.exclusions import first_possible, is_too_small, too_small
+>>> from leastmoved.keeping import bound_by, is_best, levels_for, most_kept
+>>> forbidden = ((0, 2), (1, 2))
+>>> most_kept((1, 1, 2), (0, 0, 1, 2), forbidden, ())
+(2, (0, 1, 2, 2))
+>>> bound_by((1, 1, 2), (0, 0, 1, 2), forbidden, (), (1, 0, 0))
+3
+>>> levels_for((1, 1, 2), (0, 0, 1, 2), forbidden, ())
+(2, 1, 0)
+>>> is_best((1, 1, 2), (0, 0, 1, 2), forbidden, (), (0, 1, 2, 2), (2, 1, 0))
+True
+>>> too_small((1, 3), ((0, 1), (1, 1))), first_possible((1, 3), ((0, 1), (1, 1)))
+(((0,), (0, 1)), None)
+>>> is_too_small((1, 3), ((0, 1), (1, 1)), ((0,), (0, 1)))
+True
+>>> most_kept((2, 2), (0, 0, 1, 1), (), ((0, 1),))
+(2, (1, 0, 0, 1))
+"""
+
+CONTROLLER = """
+>>> from leastmoved.controller import Controller
+>>> controller = Controller(3, 4)
+>>> controller.act(("set", (2, 1, 1))), controller.assignment()
+(2, (0, 0, 1, 2))
+>>> controller.act(("set", (1, 2, 1))), controller.assignment()
+(1, (0, 1, 1, 2))
+>>> controller.act(("pin", 0)), controller.churn_to((0, 3, 1)), controller.churn_to((2, 1, 1))
+(0, None, 1)
+>>> controller.act(("rollback", 1)), controller.assignment(), controller.changes()
+(1, (0, 0, 1, 2), (0, 2, 1, 1))
+>>> controller.records()[1]
+(('set', (1, 2, 1)), (0, 1, 1, 2), (1, 0, 0))
+"""
+
 EXAMPLES = {
     "assignments": ASSIGNMENTS,
     "changes": CHANGES,
@@ -169,6 +218,9 @@ EXAMPLES = {
     "histories": HISTORIES,
     "rules": RULES,
     "populations": POPULATIONS,
+    "thresholds": THRESHOLDS,
+    "exclusions": EXCLUSIONS,
+    "controller": CONTROLLER,
     "README.md": README.read_text("utf-8"),
 }
 

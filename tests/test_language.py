@@ -71,6 +71,22 @@ INTERFACE = {
     "fewest": {
         "fewest": "variants family", "accepts_few": "variants family few tree", "accepts_fewest": "variants family evidence",
         "needed": "variants total", "lists_for": "variants total"},
+    "thresholds": {
+        "by_intervals": "allocation order", "boundaries": "allocation order", "interval_churn": "first second order",
+        "waste": "first second order", "interval_moves": "first second order", "best_order": "allocations"},
+    "exclusions": {
+        "is_possible": "allocation forbidden value", "first_possible": "allocation forbidden",
+        "too_small": "allocation forbidden", "is_too_small": "allocation forbidden value"},
+    "keeping": {
+        "most_kept": "allocation assignment forbidden pins", "bound_by": "allocation assignment forbidden pins levels",
+        "levels_for": "allocation assignment forbidden pins",
+        "is_best": "allocation assignment forbidden pins value levels"},
+    "controller": {"Controller": "variants buckets"},
+}
+METHODS = {
+    "Controller": {
+        "act": "action", "undo": "", "assignment": "", "allocation": "", "changes": "", "pins": "", "excluded": "",
+        "earlier": "", "churn_to": "allocation", "journal": "", "records": ""},
 }
 
 
@@ -162,6 +178,13 @@ class Names(unittest.TestCase):
         for name in TREES:
             self.assertNotIn(name, reached_from(name))
 
+    def test_no_class_has_a_method_and_an_attribute_of_one_name(self):
+        nodes = [node for tree in TREES.values() for node in ast.walk(tree)]
+        classes = [node for node in nodes if isinstance(node, ast.ClassDef)]
+        methods = {each.name for node in classes for each in node.body if isinstance(each, ast.FunctionDef)}
+        stored = {node.attr for node in nodes if isinstance(node, ast.Attribute) and isinstance(node.ctx, ast.Store)}
+        self.assertEqual(methods & stored, set())
+
     def test_no_name_is_given_another_meaning(self):
         for name, tree in TREES.items():
             imported = {each.name for node in imports_of(tree) for each in node.names}
@@ -190,3 +213,10 @@ class Interface(unittest.TestCase):
         else:
             made = [each for each in node.body if isinstance(each, ast.FunctionDef) and each.name == "__init__"]
             self.assertEqual(parameters_of(made[0]), ["self"] + parameters, node.name)
+
+    def test_methods_stand_in_their_class(self):
+        classes = {node.name: node for tree in TREES.values() for node in tree.body if isinstance(node, ast.ClassDef)}
+        for name, wanted in METHODS.items():
+            here = {node.name: node for node in classes[name].body if isinstance(node, ast.FunctionDef)}
+            for word, parameters in wanted.items():
+                self.assertEqual(parameters_of(here[word]), ["self"] + parameters.split(), (name, word))
