@@ -1,8 +1,7 @@
 """Allocations: how many buckets each variant has."""
 
-from math import gcd
-
 from leastmoved.checks import MOST_BUCKETS, MOST_VARIANTS, are_integers, is_integer, require
+from leastmoved.quotients import in_lowest_terms
 
 GREATEST_WEIGHT = 1000000
 
@@ -75,16 +74,21 @@ def rests_of(weights, buckets):
     return [buckets * weight % sum(weights) for weight in weights]
 
 
-def apportioned(weights, buckets):
-    """Return the allocation by largest rests."""
-    require(are_weights(weights), "weights")
-    require(is_integer(buckets, 0, MOST_BUCKETS), "buckets")
+def by_largest_rests(weights, buckets):
+    """Return the allocation by largest rests, for weights of any size."""
     rests = rests_of(weights, buckets)
     shares = [buckets * weight // sum(weights) for weight in weights]
     by_rest = sorted([(-rest, variant) for variant, rest in enumerate(rests)])
     for _, variant in by_rest[:buckets - sum(shares)]:
         shares[variant] += 1
     return tuple(shares)
+
+
+def apportioned(weights, buckets):
+    """Return the allocation by largest rests."""
+    require(are_weights(weights), "weights")
+    require(is_integer(buckets, 0, MOST_BUCKETS), "buckets")
+    return by_largest_rests(weights, buckets)
 
 
 def surpluses(weights, allocation):
@@ -97,8 +101,7 @@ def deviation(weights, allocation):
     """Return the deviation of the allocation from the weights, in lowest terms."""
     check_weighted(weights, allocation)
     distance = sum([abs(surplus) for surplus in surpluses(weights, allocation)])
-    divisor = gcd(distance, sum(weights))
-    return (distance // divisor, sum(weights) // divisor)
+    return in_lowest_terms(distance, sum(weights))
 
 
 def is_nearest(weights, allocation):

@@ -196,6 +196,7 @@ True
 
 CONTROLLER = """
 >>> from leastmoved.controller import Controller
+>>> from leastmoved.journals import are_right, replayed
 >>> controller = Controller(3, 4)
 >>> controller.act(("set", (2, 1, 1))), controller.assignment()
 (2, (0, 0, 1, 2))
@@ -207,6 +208,38 @@ CONTROLLER = """
 (1, (0, 0, 1, 2), (0, 2, 1, 1))
 >>> controller.records()[1]
 (('set', (1, 2, 1)), (0, 1, 1, 2), (1, 0, 0))
+>>> are_right(3, 4, controller.records()), replayed(3, 4, controller.journal()).earlier()
+(True, ((0, 0, 0, 0),))
+>>> are_right(3, 4, ((("set", (2, 1, 1)), (1, 2, 0, 0), (2, 0, 0)),))
+False
+"""
+
+TEXTS = """
+>>> from leastmoved.reading import next_tokens, read_assignment, read_shares
+>>> from leastmoved.writing import allocation_of_shares, assignment_text, shares_text
+>>> shares = read_shares("control 50, blue 30.25,red 79/400")
+>>> shares
+(('control', (1, 2)), ('blue', (121, 400)), ('red', (79, 400)))
+>>> shares_text(shares)
+'control 50, blue 30.25, red 19.75'
+>>> allocation_of_shares(shares, 10)
+(5, 3, 2)
+>>> shares_text((("a", (1, 3)), ("b", (2, 3))))
+'a 1/3, b 2/3'
+>>> read_assignment("0*3 2 1*2", 3), assignment_text((0, 0, 0, 2, 1, 1))
+((0, 0, 0, 2, 1, 1), '0*3 2 1*2')
+>>> next_tokens("blue 30", "shares")
+['","', '"."', '"/"', 'the end']
+>>> next_tokens("0*3 2", "assignment")
+['a number', '"*"', 'the end']
+"""
+
+# Where the document says "raises TextError", a doctest has a traceback.
+WRONG_TEXT = """
+>>> from leastmoved.reading import read_shares
+>>> read_shares("a 50, b 60")
+Traceback (most recent call last):
+leastmoved.errors.TextError: column 11: the total is not the whole
 """
 
 EXAMPLES = {
@@ -221,6 +254,8 @@ EXAMPLES = {
     "thresholds": THRESHOLDS,
     "exclusions": EXCLUSIONS,
     "controller": CONTROLLER,
+    "texts": TEXTS,
+    "wrong text": WRONG_TEXT,
     "README.md": README.read_text("utf-8"),
 }
 

@@ -82,6 +82,12 @@ INTERFACE = {
         "levels_for": "allocation assignment forbidden pins",
         "is_best": "allocation assignment forbidden pins value levels"},
     "controller": {"Controller": "variants buckets"},
+    "journals": {"replayed": "variants buckets journal", "are_right": "variants buckets records"},
+    "scanning": {"scan": "text"},
+    "reading": {"next_tokens": "text kind", "read_shares": "text", "read_assignment": "text variants"},
+    "writing": {
+        "shares_text": "shares", "assignment_text": "assignment", "is_shares": "value",
+        "allocation_of_shares": "shares buckets"},
 }
 METHODS = {
     "Controller": {
