@@ -91,9 +91,9 @@ def hindrance(state, action):
 def outcome(state, action):
     """Return the assignment that the action gives if it is possible, and for "set" the first levels."""
     if action[0] == "set":
-        told = (action[1], state.current, state.barred, pins_of(state))
-        _, assignment = most_kept(*told)
-        return (assignment, levels_for(*told))
+        allocation, pins = action[1], pins_of(state)
+        _, assignment = most_kept(allocation, state.current, state.barred, pins)
+        return (assignment, levels_for(allocation, state.current, state.barred, pins))
     if action[0] == "rollback":
         return (state.past[action[1] - 1], None)
     return (state.current, None)

@@ -29,7 +29,8 @@ def is_right_outcome(variants, state, action, assignment, levels):
         return is_best(action[1], state.current, state.barred, pins_of(state), assignment, levels)
     if levels is not None or not is_assignment(assignment, variants, len(state.current)):
         return False
-    return (assignment, levels) == outcome(state, action)
+    given, _ = outcome(state, action)
+    return assignment == given
 
 
 def is_right(variants, buckets, farthest, state, record):
